@@ -1,0 +1,1 @@
+"""Decisions over chance, by exact expected worth."""
