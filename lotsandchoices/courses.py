@@ -37,6 +37,7 @@ class Courses:
         for end in ends:
             end.tree.steps = end.amount[0] * (self.unit // end.amount[1])
             end.tree.weight = end.chance[0] * (self.parts // end.chance[1])
+            end.tree.total = end.tree.steps * end.tree.weight
             self.worths[end.tree.steps] = end.amount
             self.chances[end.tree.weight] = end.chance
 
@@ -71,22 +72,34 @@ def ways_taken(tree, policy):
     return tree.ways
 
 
+def ends_under(tree, policy):
+    """The worths within a tree that the choices of a policy lead to, those of chance 0 too."""
+    ends = []
+    waiting = [tree]
+    while len(waiting) > 0:
+        here = waiting.pop()
+        if here.kind == WORTH:
+            ends.append(here)
+        waiting.extend(ways_taken(here, policy))
+    return ends
+
+
 def weights_by_steps(courses, policy):
     """What a policy comes to: for the steps of each worth its weight; worths of chance 0 are left out."""
     found = {}
-    waiting = [courses.tree]
-    while len(waiting) > 0:
-        tree = waiting.pop()
-        if tree.weight > 0:
-            found[tree.steps] = found.get(tree.steps, 0) + tree.weight
-        waiting.extend(ways_taken(tree, policy))
+    for end in ends_under(courses.tree, policy):
+        if end.weight > 0:
+            found[end.steps] = found.get(end.steps, 0) + end.weight
     return found
 
 
-def expected_worth(courses, policy):
-    total = 0
-    for steps, weight in weights_by_steps(courses, policy).items():
-        total += steps * weight
+def total_of(courses, policy):
+    """The expected worth of a policy times unit and parts: a whole number, so that it is compared quickly."""
+    return sum([end.total for end in ends_under(courses.tree, policy)])
+
+
+def worth_of_total(courses, total):
+    """The expected worth that a total tells of."""
     return lowest(total, courses.unit * courses.parts)
 
 
@@ -111,3 +124,15 @@ def outcomes_of(courses, policy):
     """The worths that a policy may come to, the least first, each as a worth and its chance."""
     found = weights_by_steps(courses, policy)
     return [(courses.worths[steps], chance_of(courses, found[steps])) for steps in sorted(found)]
+
+
+def is_above(courses, policy, other):
+    """Whether for every worth the chance to come to at least that is not less than for the other policy."""
+    weights = weights_by_steps(courses, policy)
+    others = weights_by_steps(courses, other)
+    ahead = 0
+    for steps in reversed(sorted(set(weights) | set(others))):
+        ahead += weights.get(steps, 0) - others.get(steps, 0)
+        if ahead < 0:
+            return False
+    return True

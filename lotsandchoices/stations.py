@@ -60,3 +60,12 @@ def is_policy(choices, stations):
     if len(choices) != len(stations):
         return False
     return all([0 <= choice < len(station.labels) for choice, station in zip(choices, stations)])
+
+
+def policy_at(stations, number):
+    """The policy of this number in the order of the policies, from 0: the last station changes first."""
+    choices = []
+    for station in reversed(stations):
+        choices.append(number % len(station.labels))
+        number = number // len(station.labels)
+    return list(reversed(choices))

@@ -13,7 +13,7 @@ class Tree:
 
     amount is what a worth is worth or an add adds, shares the fractions of the ways of lots, name and
     labels those of a station, place and label_places where these stand, station its number; steps and
-    weight tell of a worth what it comes to, as Courses counts it.
+    weight tell of a worth what it comes to, as Courses counts it, total is the one times the other.
     """
 
     def __init__(self, kind):
@@ -28,6 +28,7 @@ class Tree:
         self.station = 0
         self.steps = 0
         self.weight = 0
+        self.total = 0
 
 
 def in_text_order(tree):

@@ -1,6 +1,7 @@
 """What the tests share: calls, their answers, and a reckoning of trees of its own with Python's fractions."""
 
 from fractions import Fraction
+from itertools import product
 
 from lotsandchoices.game import answers
 
@@ -50,6 +51,30 @@ def spread(*policy):
     return [6] + row(policy)
 
 
+def best():
+    return [7]
+
+
+def worst():
+    return [8]
+
+
+def free():
+    return [9]
+
+
+def seen():
+    return [10]
+
+
+def above(first, second):
+    return [11] + row(first) + row(second)
+
+
+def policy(number):
+    return [12, number]
+
+
 def split(told):
     """The answers of a line, one list each."""
     parts = []
@@ -91,9 +116,17 @@ def fault_of(text):
 
 def worths_told(answer):
     """The worths and chances of an answer of outcomes, as fractions."""
-    numbers = answer[1:]
-    if len(numbers) != 4 * answer[0]:
-        raise AssertionError("outcomes tell a wrong count")
+    return worths_of(answer[0], answer[1:])
+
+
+def seen_told(answer):
+    """The expected worth, and the worths and chances, of an answer of seen, as fractions."""
+    return Fraction(*answer[1:3]), worths_of(answer[0], answer[3:])
+
+
+def worths_of(many, numbers):
+    if len(numbers) != 4 * many:
+        raise AssertionError("a wrong count of worths is told")
     return [
         (Fraction(numbers[at], numbers[at + 1]), Fraction(numbers[at + 2], numbers[at + 3]))
         for at in range(0, len(numbers), 4)
@@ -102,6 +135,33 @@ def worths_told(answer):
 
 def pair(fraction):
     return [fraction.numerator, fraction.denominator]
+
+
+def told(tree):
+    """The text of a game with this tree."""
+    return "chance T tell " + tree
+
+
+def policies_of(text):
+    """All policies of a game, by the labels that station tells, in their order."""
+    many = ask_of(text, sizes())[0][1]
+    labels = []
+    for number in range(many):
+        answer = ask_of(text, station(number))[0]
+        labels.append(range(answer[3 + answer[1]]))
+    return list(product(*labels))
+
+
+def spanning(first, last, step=1):
+    """Lots, all of one chance within their brackets, with the worths from the first to the last."""
+    ways = [str(value) for value in range(first, last + 1, step)]
+    while len(ways) > 1:
+        groups = [ways[at:at + 8] for at in range(0, len(ways), 8)]
+        ways = [
+            "pick(" + ", ".join(f"{way} : 1" for way in group) + ")" if len(group) > 1 else group[0]
+            for group in groups
+        ]
+    return ways[0]
 
 
 # Trees of the tests: ("worth", F), ("add", F, tree), ("pick", [(tree, F), ..]), ("if", name, [(label, tree), ..]).
@@ -168,3 +228,81 @@ def comes_to(tree, choices):
         for worth, chance in comes_to(way, choices).items():
             found[worth] = found.get(worth, 0) + chance * share / together
     return {worth: chance for worth, chance in found.items() if chance > 0}
+
+
+def all_policies(tree):
+    """All policies in their order, each as names to numbers and as numbers."""
+    labels = station_labels(tree)
+    numbers = product(*[range(len(each)) for each in labels.values()])
+    return [(dict(zip(labels, each)), list(each)) for each in numbers]
+
+
+def knowing_places(tree):
+    """The expected worth if at each place the better may be chosen."""
+    if tree[0] == "worth":
+        return tree[1]
+    if tree[0] == "add":
+        return tree[1] + knowing_places(tree[2])
+    if tree[0] == "if":
+        return max(knowing_places(way) for way in ways_of(tree))
+    together = sum(share for way, share in tree[1])
+    return sum(share * knowing_places(way) for way, share in tree[1]) / together
+
+
+def draws(tree):
+    """All that may be drawn: the tree without lots that is left, and the chance of it."""
+    if tree[0] == "worth":
+        return [(tree, Fraction(1))]
+    if tree[0] == "add":
+        return [(("add", tree[1], way), chance) for way, chance in draws(tree[2])]
+    if tree[0] == "pick":
+        together = sum(share for way, share in tree[1])
+        return [
+            (left, chance * share / together)
+            for way, share in tree[1] if share > 0 for left, chance in draws(way)
+        ]
+    found = []
+    for lefts in product(*[draws(way) for way in ways_of(tree)]):
+        chance = Fraction(1)
+        for left in lefts:
+            chance *= left[1]
+        found.append((("if", tree[1], [("label", left[0]) for left in lefts]), chance))
+    return found
+
+
+def draw_count(tree):
+    """How many trees draws gives back."""
+    counts = [draw_count(way) for way in ways_of(tree)]
+    if tree[0] == "if":
+        many = 1
+        for count in counts:
+            many *= count
+        return many
+    return max(1, sum(counts))
+
+
+def knowing_lots(tree):
+    """The chances of all worths that may come out if all lots are drawn beforehand, draw by draw."""
+    found = {}
+    for left, chance in draws(tree):
+        worth = knowing_places(left)
+        found[worth] = found.get(worth, 0) + chance
+    return found
+
+
+def most_pairs(tree):
+    """The worths that may come out of a tree knowing all lots first, and the most pairs of lists on the way."""
+    if tree[0] == "worth":
+        return {tree[1]}, 0
+    inner = [most_pairs(way) for way in ways_of(tree)]
+    most = max(pairs for worths, pairs in inner)
+    if tree[0] == "add":
+        return {worth + tree[1] for worth in inner[0][0]}, most
+    if tree[0] == "pick":
+        drawn = [worths for (worths, pairs), (way, share) in zip(inner, tree[1]) if share > 0]
+        return set().union(*drawn), most
+    found = inner[-1][0]
+    for worths, pairs in inner[-2::-1]:
+        most = max(most, len(worths) * len(found))
+        found = {max(one, other) for one in worths for other in found}
+    return found, most

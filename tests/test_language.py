@@ -30,6 +30,8 @@ WORDS_NOWHERE = re.compile(
     r"\b(type|typing|typing_extensions|enum|Enum|IntEnum|StrEnum|Flag|IntFlag|Generic|Protocol|ABC|ABCMeta|namedtuple"
     r"|NamedTuple|TypedDict|TYPE_CHECKING|abstractmethod)\b|dataclass|overload|contextmanager"
 )
+WALKED = ("zip", "enumerate", "reversed", "range", "items", "keys", "values")
+TAKERS = ("list", "tuple", "dict", "sorted", "sum", "any", "all", "enumerate", "zip", "min", "max")
 NAMES_NOWHERE = set("register mro elements open input version_info with_traceback add_note".split())
 
 
@@ -43,6 +45,10 @@ def trees():
 
 def is_text(statement):
     return isinstance(statement, ast.Expr) and isinstance(statement.value, ast.Constant)
+
+
+def is_call(node, names):
+    return isinstance(node, ast.Call) and isinstance(node.func, ast.Name) and node.func.id in names
 
 
 def is_plain(value, functions):
@@ -156,6 +162,21 @@ class Language(unittest.TestCase):
                 if isinstance(node, ast.Compare) and isinstance(node.ops[0], (ast.Is, ast.IsNot)):
                     self.assertIsInstance(node.comparators[0], ast.Constant)
 
+    def test_sets_and_what_is_walked_at_once(self):
+        for name, tree in trees().items():
+            around = {inner: node for node in ast.walk(tree) for inner in ast.iter_child_nodes(node)}
+            for node in [each for each in ast.walk(tree) if isinstance(each, ast.Call)]:
+                outer = around[node]
+                called = getattr(node.func, "attr", getattr(node.func, "id", None))
+                with self.subTest(where=f"{name}:{node.lineno}"):
+                    if called in ("set", "frozenset"):
+                        while isinstance(outer, ast.BinOp):
+                            outer = around[outer]
+                        self.assertTrue(isinstance(outer, ast.Compare) or is_call(outer, ("sorted", "len")))
+                    elif called in WALKED:
+                        walk = isinstance(outer, (ast.For, ast.comprehension)) and outer.iter is node
+                        self.assertTrue(walk or is_call(outer, TAKERS) and outer.args[0] is node)
+
     def test_functions_and_classes(self):
         for where, node in nodes_of(ast.FunctionDef, ast.ClassDef):
             with self.subTest(where=where):
@@ -178,7 +199,7 @@ class Language(unittest.TestCase):
             for function in [node for node in ast.walk(tree) if isinstance(node, ast.FunctionDef)]:
                 nodes = [node for node in ast.walk(function) if isinstance(node, ast.Name)]
                 local = {node.id for node in nodes if isinstance(node.ctx, ast.Store)}
-                local |= {node.name for node in ast.walk(function) if isinstance(node, ast.ExceptHandler)}
+                local |= {node.name for node in ast.walk(function) if isinstance(node, ast.ExceptHandler) and node.name}
                 local |= {arg.arg for arg in function.args.args}
                 with self.subTest(file=name, function=function.name):
                     self.assertEqual(local & (taken | NAMES_NOWHERE), set())

@@ -1,15 +1,15 @@
-"""Many games made by a fixed rule, against the tests' own reckoning (promises 1, 2 and 6)."""
+"""Many games made by a fixed rule, against the tests' own reckoning (promises 1 to 6)."""
 
 import random
 import re
 import unittest
 from fractions import Fraction
-from itertools import islice, product
 
 from lotsandchoices.game import answers
 from tests.support import (
-    ask_of, comes_to, expected, form_of, load, outcomes, pair, sizes, split, spread, station_labels, tree_count,
-    tree_text, worth,
+    above, all_policies, ask_of, best, comes_to, draw_count, expected, form_of, free, knowing_lots, knowing_places,
+    load, most_pairs, outcomes, pair, policy, seen, seen_told, sizes, split, spread, station_labels, tree_count,
+    tree_text, worst, worth,
 )
 
 LABELS = {"Door": ["left", "right"], "add": ["x", "y", "z"], "go": ["now", "later"], "Go": ["add", "b", "c", "d"]}
@@ -62,11 +62,24 @@ def loosened(form, rule):
     return loose + rule.choice(["", "\n", "# end"])
 
 
-def first_policies(tree):
-    """The first policies of a tree, each as names to numbers and as numbers."""
-    labels = station_labels(tree)
-    numbers = islice(product(*[range(len(each)) for each in labels.values()]), 12)
-    return [(dict(zip(labels, each)), each) for each in numbers]
+def is_above(first, second):
+    """Of two chances of worths, whether the first are no less for each worth and all above it."""
+    for bound in list(first) + list(second):
+        chances = [sum(chance for value, chance in each.items() if value >= bound) for each in (first, second)]
+        if chances[0] < chances[1]:
+            return False
+    return True
+
+
+def wide(rule, depth):
+    """A tree of stations and lots that have many worths."""
+    if depth == 0:
+        ways = [(("worth", Fraction(rule.randrange(200))), rule.choice(SHARES)) for k in range(rule.randrange(2, 8))]
+        return ("pick", ways + [(("worth", Fraction(rule.randrange(200))), Fraction(1))])
+    inner = [wide(rule, depth - 1) for k in range(rule.choice([2, 2, 3, 4]))]
+    if rule.random() < 0.45:
+        return ("add", Fraction(rule.randrange(-40, 40)), ("if", f"S{len(inner)}", list(zip("abcd", inner))))
+    return ("pick", list(zip(inner, [Fraction(1)] + [Fraction(rule.choice([0, 1, 2, 3])) for way in inner])))
 
 
 class ManyGames(unittest.TestCase):
@@ -84,7 +97,7 @@ class ManyGames(unittest.TestCase):
 
     def test_worth_outcomes_and_spread(self):
         for tree, form in games(300):
-            for choices, numbers in first_policies(tree):
+            for choices, numbers in all_policies(tree)[:12]:
                 found = comes_to(tree, choices)
                 mean = expected(tree, choices)
                 width = sum(value ** 2 * chance for value, chance in found.items()) - mean ** 2
@@ -97,10 +110,75 @@ class ManyGames(unittest.TestCase):
                         [[1] + pair(mean), told, [1] + pair(width)],
                     )
 
+    def test_best_worst_and_policy(self):
+        for tree, form in games(300):
+            policies = all_policies(tree)
+            worths = [expected(tree, choices) for choices, numbers in policies]
+            answers_told = []
+            for value in (max(worths), min(worths)):
+                first = policies[worths.index(value)][1]
+                answers_told.append([worths.count(value)] + pair(value) + first)
+            number = len(form) % len(policies)
+            answers_told.append([len(policies[number][1])] + policies[number][1])
+            with self.subTest(form=form):
+                self.assertEqual(ask_of(form, best(), worst(), policy(number)), answers_told)
+
+    def test_free_and_seen(self):
+        for tree, form in games(300):
+            most, places = ask_of(form, best(), free())
+            with self.subTest(form=form):
+                self.assertEqual(places, [1] + pair(knowing_places(tree)))
+                self.assertLessEqual(Fraction(*most[1:3]), knowing_places(tree))
+                if form.count("if ") == len(station_labels(tree)):
+                    self.assertEqual(most[1:3], places[1:])
+            if draw_count(tree) > 3000:
+                continue
+            found = knowing_lots(tree)
+            mean = sum(value * chance for value, chance in found.items())
+            told = [len(found)] + pair(mean)
+            for value in sorted(found):
+                told += pair(value) + pair(found[value])
+            with self.subTest(form=form):
+                self.assertEqual(ask_of(form, seen()), [told])
+                self.assertLessEqual(knowing_places(tree), mean)
+
+    def test_seen_of_many_worths(self):
+        refused = 0
+        for seed in range(120):
+            tree = wide(random.Random(seed), 1 + seed % 4)
+            form = f"chance Wide tell {tree_text(tree)}"
+            if len(form) > 4000:
+                continue
+            values, pairs = most_pairs(tree)
+            answer = ask_of(form, seen())[0]
+            with self.subTest(form=form):
+                self.assertEqual(answer == [-8], pairs > 512)
+                if answer == [-8]:
+                    refused += 1
+                    continue
+                mean, found = seen_told(answer)
+                self.assertEqual([value for value, chance in found], sorted(values))
+                self.assertEqual(sum(chance for value, chance in found), 1)
+                self.assertEqual(sum(value * chance for value, chance in found), mean)
+                self.assertLessEqual(knowing_places(tree), mean)
+        self.assertGreater(refused, 10)
+
+    def test_above(self):
+        for tree, form in games(200):
+            policies = all_policies(tree)[:6]
+            found = [comes_to(tree, choices) for choices, numbers in policies]
+            for first, mine in zip(policies, found):
+                told = ask_of(form, *[above(first[1], second[1]) for second in policies])
+                with self.subTest(form=form, policy=first):
+                    self.assertEqual(told, [[1 if is_above(mine, yours) else 0] for yours in found])
+                for second, answer in zip(policies, told):
+                    if answer == [1]:
+                        self.assertGreaterEqual(expected(tree, first[0]), expected(tree, second[0]))
+
     def test_one_line_of_many_games(self):
         line, told = [], []
         for tree, form in games(60):
-            choices, numbers = first_policies(tree)[-1]
+            choices, numbers = all_policies(tree)[-1]
             line += load(form) + worth(*numbers)
             told += [[1], [1] + pair(expected(tree, choices))]
             if len(line) > 15000:

@@ -1,13 +1,9 @@
-"""worth, outcomes and spread (promise 2, and what promises 5 and 6 say of these)."""
+"""worth, outcomes and spread: promise 2, and what promise 6 says of spreads."""
 
 import unittest
 from fractions import Fraction
 
-from tests.support import BOX, LIMIT, UMBRELLA, ask_of, outcomes, pair, spread, worth, worths_told
-
-
-def told(tree):
-    return "chance T tell " + tree
+from tests.support import BOX, LIMIT, UMBRELLA, ask_of, outcomes, pair, spread, told, worth, worths_told
 
 
 def all_of(text, *policy):
@@ -145,17 +141,6 @@ class Promised(unittest.TestCase):
                 self.assertEqual(expected, [1] + pair(mean))
                 self.assertEqual(width, [1] + pair(sum(value ** 2 * chance for value, chance in found) - mean ** 2))
                 self.assertGreaterEqual(width[1], 0)
-
-    def test_an_amount_added_to_the_whole_tree(self):
-        for text, policies in self.GAMES:
-            for amount in (Fraction(1), Fraction(-3, 7), Fraction(10 ** 9), Fraction(-1, 10 ** 9)):
-                more = text.replace("tell ", f"tell add({amount}, ", 1) + ")"
-                for policy in policies:
-                    expected, found, width = all_of(text, *policy)
-                    expected_more, found_more, width_more = all_of(more, *policy)
-                    self.assertEqual(Fraction(*expected_more[1:]), Fraction(*expected[1:]) + amount)
-                    self.assertEqual(worths_told(found_more), [(v + amount, c) for v, c in worths_told(found)])
-                    self.assertEqual(width_more, width)
 
     def test_a_spread_of_0_where_one_worth_comes_out(self):
         for tree in ("7", "pick(7 : 1, 7 : 2)", "pick(7 : 1, 8 : 0)", "add(1/3, -1000000000)"):
